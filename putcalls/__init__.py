@@ -1,0 +1,1 @@
+"""Calls put in: programs of functions, told call by call."""
