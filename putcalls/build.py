@@ -7,7 +7,7 @@ before the last of them.
 """
 
 from putcalls.program import Block, Function
-from putcalls.program import ROW_NUM, ROW_TWO, ROW_SAY, ROW_CALL, END_JUMP, END_FORK
+from putcalls.program import ROW_NUM, ROW_TWO, ROW_SAY, ROW_CALL, END_JUMP, END_FORK, END_GIVE
 from putcalls.program import calls_standing
 
 GREATEST_NAME = 23
@@ -124,3 +124,11 @@ def add_fork(program, v, t, u, n, handed):
     if has_wrong_name([v] + handed) or is_wrong_target(t) or is_wrong_target(u):
         return -2
     return put_end(program, (END_FORK, v, t, tuple(handed[:n]), u, tuple(handed[n:])))
+
+
+def add_give(program, v):
+    if program.unended is None:
+        return -3
+    if has_wrong_name([v]):
+        return -2
+    return put_end(program, (END_GIVE, v))

@@ -2,7 +2,8 @@
 
 Rows and ends are tuples that begin with the number that the document gives
 to their form: (0, x, n) a number, (2, x, o, a, b) two, (3, a) say,
-(4, x, g, handed) a call; (0, t, handed) a jump, (1, v, t, to_t, u, to_u) a fork.
+(4, x, g, handed) a call; (0, t, handed) a jump, (1, v, t, to_t, u, to_u) a fork,
+(2, v) give.
 """
 
 ROW_NUM = 0
@@ -12,6 +13,7 @@ ROW_CALL = 4
 
 END_JUMP = 0
 END_FORK = 1
+END_GIVE = 2
 
 
 class Block:
@@ -35,16 +37,28 @@ class Program:
         self.unended = None
 
 
-def calls_in(block):
-    return len([row for row in block.rows if row[0] == ROW_CALL])
+def calls_among(rows):
+    """At which rows calls stand."""
+    return [r for r in range(len(rows)) if rows[r][0] == ROW_CALL]
+
+
+def all_calls(program):
+    """The calls of all blocks that are ended, in order, each told by its function, block, row."""
+    places = []
+    for f in range(len(program.functions)):
+        blocks = program.functions[f].blocks
+        for b in range(len(blocks)):
+            places.extend([(f, b, r) for r in calls_among(blocks[b].rows)])
+    return places
+
+
+def row_at(program, place):
+    return program.functions[place[0]].blocks[place[1]].rows[place[2]]
 
 
 def calls_standing(program):
     """How many calls stand in the program; those of the open block stand there too."""
-    standing = 0
-    for function in program.functions:
-        for block in function.blocks:
-            standing += calls_in(block)
+    standing = len(all_calls(program))
     if program.unended is not None:
-        standing += calls_in(program.unended)
+        standing += len(calls_among(program.unended.rows))
     return standing

@@ -1,33 +1,35 @@
-"""Promise 3: jump and fork."""
+"""Promise 3: jump, fork and give."""
 
 import unittest
 
-from lines import GREATEST, LineTest, ask, block, fork, function, jump, num
+from lines import GREATEST, LineTest, ask, block, fork, function, give, jump, num
 
 OPENED = [function(0), block()]
-CLOSED = ([], [function(0)], [function(0), block(), jump(1)], [function(0), block(), fork(0, 1, 1, 0)])
+CLOSED = ([], [function(0)], [function(0), block(), jump(1)], [function(0), block(), fork(0, 1, 1, 0)],
+          [function(0), block(), give(0)])
 TOO_GREAT = (24, 25, GREATEST)
 NO_TARGETS = (0, 6, 7, GREATEST)
 
 
 class EndTest(LineTest):
     def test_answer_counts_the_blocks_of_the_function(self):
-        told = ask(function(0), block(), jump(1), block(), num(0), fork(0, 1, 2, 0), block(), jump(2),
-                   function(0), block(), fork(0, 1, 1, 0), block(), jump(1))
-        self.assertEqual(told, [0, 0, 1, 1, 1, 2, 2, 3, 1, 0, 1, 1, 2])
+        told = ask(function(0), block(), jump(1), block(), num(0), fork(0, 1, 2, 0), block(), give(2),
+                   function(0), block(), give(0), block(), jump(1), block(), fork(0, 1, 1, 0))
+        self.assertEqual(told, [0, 0, 1, 1, 1, 2, 2, 3, 1, 0, 1, 1, 2, 2, 3])
 
     def test_six_blocks(self):
-        told = ask(function(0), *([block(), jump(5)] * 3), *([block(), fork(0, 1, 5, 0)] * 3))
+        told = ask(function(0), *([block(), jump(5)] * 2), *([block(), fork(0, 1, 5, 0)] * 2),
+                   *([block(), give(0)] * 2))
         self.assertEqual(told, [0, 0, 1, 1, 2, 2, 3, 3, 4, 4, 5, 5, 6])
 
     def test_ends_the_block(self):
-        for end in (jump(1), fork(0, 1, 1, 0)):
+        for end in (jump(1), fork(0, 1, 1, 0), give(0)):
             self.accepts(OPENED + [end], num(0), -3)
             self.accepts(OPENED + [end], block(), 1)
             self.accepts(OPENED + [end], function(0), 1)
 
     def test_an_empty_block_and_a_full_one_may_end(self):
-        for end in (jump(1), fork(0, 1, 1, 0)):
+        for end in (jump(1), fork(0, 1, 1, 0), give(0)):
             self.accepts(OPENED, end, 1)
             self.accepts(OPENED + [num(0)] * 8, end, 1)
 
@@ -35,12 +37,13 @@ class EndTest(LineTest):
         for before in CLOSED:
             self.refuses(before, jump(1), -3)
             self.refuses(before, fork(0, 1, 1, 0), -3)
+            self.refuses(before, give(0), -3)
 
     def test_no_block_open_is_told_first(self):
         for before in CLOSED:
             for end in (jump(0), jump(6), jump(1, 24), jump(1, 0, 0, 0, 0, 0), jump(0, 0, 0, 0, 0, 24),
                         fork(24, 1, 1, 0), fork(0, 0, 1, 0), fork(0, 1, 6, 0), fork(0, 1, 1, 1),
-                        fork(0, 1, 1, 0, *[0] * 9), fork(24, 0, 0, 9, 24)):
+                        fork(0, 1, 1, 0, *[0] * 9), fork(24, 0, 0, 9, 24), give(24), give(GREATEST)):
                 self.refuses(before, end, -3)
 
 
@@ -117,6 +120,18 @@ class ForkTest(LineTest):
         self.refuses(OPENED, fork(0, 1, 1, 2, 24), -1)
         self.refuses(OPENED, fork(0, 1, 1, 0, *[0] * 8, 24), -1)
         self.refuses(OPENED, fork(0, 1, 1, 13, *[24] * 12), -1)
+
+
+class GiveTest(LineTest):
+    def test_names_up_to_23(self):
+        for name in (0, 1, 22, 23):
+            self.accepts(OPENED, give(name), 1)
+            self.accepts([function(4), block(), give(0), block(1), num(2)], give(name), 2)
+
+    def test_name_above_23(self):
+        for name in TOO_GREAT:
+            self.refuses(OPENED, give(name), -2)
+            self.refuses(OPENED + [num(0)] * 8, give(name), -2)
 
 
 if __name__ == "__main__":

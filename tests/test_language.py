@@ -151,6 +151,32 @@ class LanguageTest(unittest.TestCase):
                     self.assertNotIn(node.attr, NEVER, (name, node.lineno))
                     self.assertRegex(node.attr, r"^[A-Za-z]|^__init__$", (name, node.lineno))
 
+    def test_imports_and_classes_are_used_and_give_their_names_to_nothing_else(self):
+        for name, text, tree in self.trees():
+            imported = {alias.name for node in tree.body if isinstance(node, ast.ImportFrom) for alias in node.names}
+            classes = {node.name for node in tree.body if isinstance(node, ast.ClassDef)}
+            words = [node for node in ast.walk(tree) if isinstance(node, ast.Name)]
+            read = {node.id for node in words if isinstance(node.ctx, ast.Load)}
+            stored = {node.id for node in words if isinstance(node.ctx, ast.Store)}
+            stored |= {node.arg for node in ast.walk(tree) if isinstance(node, ast.arg)}
+            self.assertLessEqual(imported, read, name)
+            self.assertFalse(stored & (imported | classes), name)
+
+    def test_what_is_walked_is_not_kept(self):
+        for name, text, tree in self.trees():
+            walked = [node.iter for node in ast.walk(tree) if isinstance(node, (ast.For, ast.comprehension))]
+            for node in ast.walk(tree):
+                if isinstance(node, ast.Call) and isinstance(node.func, ast.Name):
+                    if node.func.id in ("list", "tuple", "dict", "sorted", "sum", "any", "all", "enumerate", "zip"):
+                        walked.extend(node.args[:1])
+                    elif node.func.id in ("min", "max") and len(node.args) == 1:
+                        walked.extend(node.args)
+            for node in ast.walk(tree):
+                if isinstance(node, ast.Call):
+                    called = getattr(node.func, "id", getattr(node.func, "attr", None))
+                    if called in ("zip", "enumerate", "reversed", "range", "items", "keys", "values"):
+                        self.assertTrue(any(node is one for one in walked), (name, node.lineno))
+
     def test_methods_called(self):
         own = {node.name for name, text, tree in self.trees() for one in ast.walk(tree)
                if isinstance(one, ast.ClassDef) for node in one.body if isinstance(node, ast.FunctionDef)}
